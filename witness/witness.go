@@ -1,0 +1,63 @@
+// Package witness: a small language, its runs, octagons of states, and certificates that no run goes wrong: see DOC.md.
+package witness
+
+import (
+	"witness/api"
+	"witness/program"
+	"witness/runs"
+)
+
+// Scan tells how many points a program has (P3).
+func Scan(src string) (int, api.Errno, int) {
+	p, err, at := program.Read(src)
+	if err != api.OK {
+		return 0, err, at
+	}
+	return p.End() + 1, api.OK, 0
+}
+
+// Next tells where a way out of a point leads (P4).
+func Next(src string, p int, way int) (int, api.Errno) {
+	text, err, _ := program.Read(src)
+	if err != api.OK {
+		return 0, err
+	}
+	return text.Next(p, way)
+}
+
+// Run runs a program for some steps (P5).
+func Run(src string, inputs []int, steps int) (int, int, []int, api.Errno) {
+	p, err, _ := program.Read(src)
+	if err != api.OK {
+		return 0, 0, nil, err
+	}
+	status, point, values := runs.Run(p, inputs, steps)
+	return status, point, values, api.OK
+}
+
+// Close makes the bounds of an octagon as sharp as they can be (P7).
+func Close(o []int) ([]int, api.Errno) { return nil, api.OK }
+
+// Within tells whether one octagon lies in another (P8).
+func Within(o []int, p []int) (bool, api.Errno) { return false, api.OK }
+
+// Join is the least octagon that has two (P8).
+func Join(o []int, p []int) ([]int, api.Errno) { return nil, api.OK }
+
+// Post is the least octagon of what comes out of a point by a way (P9).
+func Post(src string, p int, way int, o []int) ([]int, api.Errno) { return nil, api.OK }
+
+// Safe tells whether nothing goes wrong at a point (P10).
+func Safe(src string, p int, o []int) (bool, api.Errno) { return false, api.OK }
+
+// Encode writes a certificate (P11).
+func Encode(l [][]int) (string, api.Errno) { return "", api.OK }
+
+// Decode reads a certificate (P11).
+func Decode(cert string) ([][]int, api.Errno) { return nil, api.OK }
+
+// Check tells whether a certificate shows that no run of a program goes wrong (P12).
+func Check(src string, cert string) (api.Errno, int) { return api.OK, 0 }
+
+// Analyze looks for a certificate (P13).
+func Analyze(src string) (string, api.Errno) { return "", api.OK }
