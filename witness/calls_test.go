@@ -65,14 +65,64 @@ func TestRunAnswersFreshLists(t *testing.T) {
 	inputs := []int{1, 2}
 	_, _, first, _ := witness.Run(src, inputs, 9)
 	_, _, second, _ := witness.Run(src, inputs, 9)
-	spare := first[:cap(first)]
-	for i := range spare {
-		spare[i] = -55
-	}
+	scribble(first)
 	if !slices.Equal(second, []int{1, 2, 3, 4}) || !slices.Equal(inputs, []int{1, 2}) {
 		t.Errorf("P2: an answer shares its list: %v, %v", second, inputs)
 	}
 	wantRun(t, src, inputs, 9, outcome{api.Halted, 4, [4]int{1, 2, 3, 4}})
+}
+
+// withRoom is an octagon with spare room behind it, and all of that room.
+func withRoom(o []int) ([]int, []int) {
+	room := append(slices.Clone(o), 71, 72, 73, 74, 75, 76, 77, 78)
+	return room[:len(o)], room
+}
+
+func TestOctagonCallsWriteIntoNothing(t *testing.T) {
+	for _, told := range []string{"", "a<=9 a+b<=3 a-b<=0 c<=1", "a<=1 -a<=-2"} {
+		o, roomO := withRoom(oct(told))
+		p, roomP := withRoom(oct("a<=3 b<=4 a+b<=8"))
+		beforeO, beforeP := slices.Clone(roomO), slices.Clone(roomP)
+		witness.Close(o)
+		witness.Within(o, p)
+		witness.Within(p, o)
+		witness.Join(o, p)
+		witness.Join(p, o)
+		witness.Join(o, o)
+		if !slices.Equal(roomO, beforeO) || !slices.Equal(roomP, beforeP) {
+			t.Errorf("P2: an octagon that was handed in is changed: %v, %v", roomO, roomP)
+		}
+	}
+}
+
+// scribble writes into a list and its spare room.
+func scribble(list []int) {
+	spare := list[:cap(list)]
+	for i := range spare {
+		spare[i] = -55
+	}
+}
+
+func TestOctagonCallsAnswerFreshLists(t *testing.T) {
+	o, none := oct("a<=3 b<=4 a+b<=7"), oct("a<=1 -a<=-2")
+	for range 2 {
+		first, _ := witness.Close(o)
+		second, _ := witness.Close(o)
+		joined, _ := witness.Join(o, o)
+		left, _ := witness.Join(o, none)
+		right, _ := witness.Join(none, o)
+		scribble(first)
+		scribble(left)
+		for _, list := range [][]int{o, second, joined, right} {
+			if !slices.Equal(list, oct("a<=3 b<=4 a+b<=7")) {
+				t.Errorf("P2: an answer shares its list: %s", tell(list))
+			}
+		}
+		scribble(second)
+		scribble(joined)
+		scribble(right)
+	}
+	wantClose(t, o, o)
 }
 
 func TestAnswersHangOnTheArgumentsAlone(t *testing.T) {
@@ -83,5 +133,10 @@ func TestAnswersHangOnTheArgumentsAlone(t *testing.T) {
 		wantNext(t, "a=1;@*{", 1, 0, 0, api.ErrText)
 		wantRun(t, "a=*;b=b+1;", []int{6}, 9, outcome{api.Halted, 2, [4]int{6, 1, 0, 0}})
 		wantRun(t, "a=*;b=b+1;", nil, 9, outcome{api.Halted, 2, [4]int{0, 1, 0, 0}})
+		wantClose(t, oct("a+b<=3 a-b<=0"), oct("a+b<=3 a-b<=0 a<=1"))
+		wantClose(t, oct("a<=1 -a<=-2"), nil)
+		wantWithin(t, oct("a<=1"), oct("a<=2"), true)
+		wantWithin(t, oct("a<=1 b<=3"), oct("a<=2 b<=2"), false)
+		wantJoin(t, oct("a<=1"), oct("a<=2"), oct("a<=2"))
 	}
 }

@@ -3,6 +3,7 @@ package witness
 
 import (
 	"witness/api"
+	"witness/octagon"
 	"witness/program"
 	"witness/runs"
 )
@@ -36,13 +37,41 @@ func Run(src string, inputs []int, steps int) (int, int, []int, api.Errno) {
 }
 
 // Close makes the bounds of an octagon as sharp as they can be (P7).
-func Close(o []int) ([]int, api.Errno) { return nil, api.OK }
+func Close(o []int) ([]int, api.Errno) {
+	sharp, err := octagon.Read(o)
+	if err != api.OK {
+		return nil, err
+	}
+	return sharp.List(), api.OK
+}
 
 // Within tells whether one octagon lies in another (P8).
-func Within(o []int, p []int) (bool, api.Errno) { return false, api.OK }
+func Within(o []int, p []int) (bool, api.Errno) {
+	inner, outer, err := readBoth(o, p)
+	if err != api.OK {
+		return false, err
+	}
+	return inner.Within(outer), api.OK
+}
 
 // Join is the least octagon that has two (P8).
-func Join(o []int, p []int) ([]int, api.Errno) { return nil, api.OK }
+func Join(o []int, p []int) ([]int, api.Errno) {
+	first, second, err := readBoth(o, p)
+	if err != api.OK {
+		return nil, err
+	}
+	both := first.Join(second)
+	return both.List(), api.OK
+}
+
+func readBoth(o []int, p []int) (octagon.Octagon, octagon.Octagon, api.Errno) {
+	first, err := octagon.Read(o)
+	if err != api.OK {
+		return octagon.Octagon{}, octagon.Octagon{}, err
+	}
+	second, err := octagon.Read(p)
+	return first, second, err
+}
 
 // Post is the least octagon of what comes out of a point by a way (P9).
 func Post(src string, p int, way int, o []int) ([]int, api.Errno) { return nil, api.OK }
