@@ -109,7 +109,21 @@ func (o Octagon) bound(form int) int {
 	if form < 0 || form >= api.Bounds {
 		return api.NoBound
 	}
-	i, j := firstSide[form], secondSide[form]
+	return o.most(firstSide[form], secondSide[form])
+}
+
+func (o *Octagon) setBound(form int, n int) {
+	if form < 0 || form >= api.Bounds {
+		return
+	}
+	o.limit(firstSide[form], secondSide[form], n)
+}
+
+// most is the bound of a form that has two sides, or has one, which then is told twice.
+func (o Octagon) most(i int, j int) int {
+	if i < 0 || i >= sides || j < 0 || j >= sides {
+		return api.NoBound
+	}
 	n := o.sums[i][j]
 	if i == j && n != api.NoBound {
 		return n / 2
@@ -117,11 +131,11 @@ func (o Octagon) bound(form int) int {
 	return n
 }
 
-func (o *Octagon) setBound(form int, n int) {
-	if form < 0 || form >= api.Bounds {
+// limit sets what most tells. It leaves the other bounds as they are.
+func (o *Octagon) limit(i int, j int, n int) {
+	if i < 0 || i >= sides || j < 0 || j >= sides {
 		return
 	}
-	i, j := firstSide[form], secondSide[form]
 	if i == j && n != api.NoBound {
 		n = 2 * n
 	}

@@ -63,14 +63,31 @@ func (p Program) End() int {
 	return len(p.Statements)
 }
 
+// At is the statement that begins at a point.
+func (p Program) At(point int) (Statement, api.Errno) {
+	if point < 0 || point >= len(p.Statements) {
+		return Statement{}, api.ErrPoint
+	}
+	return p.Statements[point], api.OK
+}
+
+// WithWay is the statement that begins at a point and has a way out.
+func (p Program) WithWay(point int, way int) (Statement, api.Errno) {
+	s, err := p.At(point)
+	if err != api.OK {
+		return Statement{}, err
+	}
+	if way < 0 || way >= s.Ways() {
+		return Statement{}, api.ErrPoint
+	}
+	return s, api.OK
+}
+
 // Next tells the point to which a way out of a point leads.
 func (p Program) Next(point int, way int) (int, api.Errno) {
-	if point < 0 || point >= len(p.Statements) {
-		return 0, api.ErrPoint
-	}
-	s := p.Statements[point]
-	if way < 0 || way >= s.Ways() {
-		return 0, api.ErrPoint
+	s, err := p.WithWay(point, way)
+	if err != api.OK {
+		return 0, err
 	}
 	if way >= s.Blocks() {
 		return p.following(point), api.OK
@@ -113,8 +130,6 @@ func (p Program) firstIn(parent int, block int, from int) int {
 }
 
 func (p Program) isRepeat(point int) bool {
-	if point < 0 || point >= len(p.Statements) {
-		return false
-	}
-	return p.Statements[point].Kind == Repeat
+	s, err := p.At(point)
+	return err == api.OK && s.Kind == Repeat
 }

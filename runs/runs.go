@@ -39,10 +39,10 @@ func (m *machine) enter(point int) {
 }
 
 func (m *machine) step() {
-	if m.point < 0 || m.point >= len(m.program.Statements) {
+	s, err := m.program.At(m.point)
+	if err != api.OK {
 		return
 	}
-	s := m.program.Statements[m.point]
 	switch s.Kind {
 	case program.Assign:
 		m.assign(s)

@@ -46,6 +46,32 @@ func TestCallsEndAndErrorsStandAlone(t *testing.T) {
 	}
 }
 
+var oddOctagons = [][]int{nil, {}, oct(""), oct("a<=3 b<=4"), oct("a<=1 -a<=-2"), slices.Repeat([]int{-4000}, 32), slices.Repeat([]int{4000}, 32), slices.Repeat([]int{-1 << 63}, 32), slices.Repeat([]int{1<<63 - 1}, 32), make([]int, 1000)}
+
+func TestPostAndSafeEndAndErrorsStandAlone(t *testing.T) {
+	for _, src := range oddTexts() {
+		_, scanned, _ := witness.Scan(src)
+		for _, p := range oddNumbers {
+			for _, o := range oddOctagons {
+				safe, e := witness.Safe(src, p, o)
+				if (e != api.OK && safe) || (e == api.ErrText) != (scanned == api.ErrText) {
+					t.Errorf("P1: Safe(%.40q, %d, ..) = %v, %d", src, p, safe, e)
+				}
+				for _, way := range oddNumbers {
+					after, e := witness.Post(src, p, way, o)
+					_, next := witness.Next(src, p, way)
+					if next != api.OK && e != next {
+						t.Errorf("P1: Post(%.40q, %d, %d, ..) answers %d, Next %d", src, p, way, e, next)
+					}
+					if e != api.OK && after != nil {
+						t.Errorf("P1: Post(%.40q, %d, %d, ..) = %v, %d", src, p, way, after, e)
+					}
+				}
+			}
+		}
+	}
+}
+
 func TestRunWritesIntoNothing(t *testing.T) {
 	room := []int{1, 5, 0, 1, 77, 78, 79, 80}
 	before := slices.Clone(room)
@@ -72,6 +98,8 @@ func TestRunAnswersFreshLists(t *testing.T) {
 	wantRun(t, src, inputs, 9, outcome{api.Halted, 4, [4]int{1, 2, 3, 4}})
 }
 
+const everyStatement = "a=*;a=7;a=b;a=-a+1;!a<=1;!*;?a-b<=1{}{}@*{}"
+
 // withRoom is an octagon with spare room behind it, and all of that room.
 func withRoom(o []int) ([]int, []int) {
 	room := append(slices.Clone(o), 71, 72, 73, 74, 75, 76, 77, 78)
@@ -89,6 +117,11 @@ func TestOctagonCallsWriteIntoNothing(t *testing.T) {
 		witness.Join(o, p)
 		witness.Join(p, o)
 		witness.Join(o, o)
+		for p := range 8 {
+			witness.Post(everyStatement, p, 0, o)
+			witness.Post(everyStatement, p, 1, o)
+			witness.Safe(everyStatement, p, o)
+		}
 		if !slices.Equal(roomO, beforeO) || !slices.Equal(roomP, beforeP) {
 			t.Errorf("P2: an octagon that was handed in is changed: %v, %v", roomO, roomP)
 		}
@@ -111,9 +144,12 @@ func TestOctagonCallsAnswerFreshLists(t *testing.T) {
 		joined, _ := witness.Join(o, o)
 		left, _ := witness.Join(o, none)
 		right, _ := witness.Join(none, o)
+		after, _ := witness.Post("@*{}", 0, 0, o)
+		again, _ := witness.Post("a=a;", 0, 0, o)
 		scribble(first)
 		scribble(left)
-		for _, list := range [][]int{o, second, joined, right} {
+		scribble(after)
+		for _, list := range [][]int{o, second, joined, right, again} {
 			if !slices.Equal(list, oct("a<=3 b<=4 a+b<=7")) {
 				t.Errorf("P2: an answer shares its list: %s", tell(list))
 			}
@@ -121,6 +157,7 @@ func TestOctagonCallsAnswerFreshLists(t *testing.T) {
 		scribble(second)
 		scribble(joined)
 		scribble(right)
+		scribble(again)
 	}
 	wantClose(t, o, o)
 }
@@ -138,5 +175,9 @@ func TestAnswersHangOnTheArgumentsAlone(t *testing.T) {
 		wantWithin(t, oct("a<=1"), oct("a<=2"), true)
 		wantWithin(t, oct("a<=1 b<=3"), oct("a<=2 b<=2"), false)
 		wantJoin(t, oct("a<=1"), oct("a<=2"), oct("a<=2"))
+		wantPost(t, "a=b;?a<=2{}{}", 0, 0, oct("b<=3"), oct("b<=3 a<=3 a+b<=6 a-b<=0 -a+b<=0"))
+		wantPost(t, "a=b;?a<=2{}{}", 1, 1, oct("b<=3"), oct("b<=3 -a<=-3 -a+b<=0"))
+		wantSafe(t, "a=b;!a<=2;", 0, oct("a<=2"), false)
+		wantSafe(t, "a=b;!a<=2;", 1, oct("a<=2"), true)
 	}
 }

@@ -3,6 +3,7 @@ package witness
 
 import (
 	"witness/api"
+	"witness/effect"
 	"witness/octagon"
 	"witness/program"
 	"witness/runs"
@@ -74,10 +75,39 @@ func readBoth(o []int, p []int) (octagon.Octagon, octagon.Octagon, api.Errno) {
 }
 
 // Post is the least octagon of what comes out of a point by a way (P9).
-func Post(src string, p int, way int, o []int) ([]int, api.Errno) { return nil, api.OK }
+func Post(src string, p int, way int, o []int) ([]int, api.Errno) {
+	text, err, _ := program.Read(src)
+	if err != api.OK {
+		return nil, err
+	}
+	statement, err := text.WithWay(p, way)
+	if err != api.OK {
+		return nil, err
+	}
+	before, err := octagon.Read(o)
+	if err != api.OK {
+		return nil, err
+	}
+	after := effect.Post(statement, way, before)
+	return after.List(), api.OK
+}
 
 // Safe tells whether nothing goes wrong at a point (P10).
-func Safe(src string, p int, o []int) (bool, api.Errno) { return false, api.OK }
+func Safe(src string, p int, o []int) (bool, api.Errno) {
+	text, err, _ := program.Read(src)
+	if err != api.OK {
+		return false, err
+	}
+	statement, err := text.At(p)
+	if err != api.OK {
+		return false, err
+	}
+	before, err := octagon.Read(o)
+	if err != api.OK {
+		return false, err
+	}
+	return effect.Safe(statement, before), api.OK
+}
 
 // Encode writes a certificate (P11).
 func Encode(l [][]int) (string, api.Errno) { return "", api.OK }
