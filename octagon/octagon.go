@@ -37,22 +37,36 @@ var secondSide = [api.Bounds]int{
 	6, 7, 6, 7, // c and d
 }
 
+// IsList tells whether a list is one of the bounds of an octagon.
+func IsList(list []int) bool {
+	if len(list) != api.Bounds {
+		return false
+	}
+	for _, bound := range list {
+		if !isBound(bound) {
+			return false
+		}
+	}
+	return true
+}
+
 // Read makes an octagon of a list of bounds, or answers ErrBound. The sums that
 // no form tells are those of a side and its opposite: they are 0 from the start.
 func Read(list []int) (Octagon, api.Errno) {
-	if len(list) != api.Bounds {
+	if !IsList(list) {
 		return Octagon{}, api.ErrBound
 	}
 	o := Octagon{}
-	for form := 0; form < api.Bounds; form++ {
-		bound := list[form]
-		if !isBound(bound) {
-			return Octagon{}, api.ErrBound
-		}
+	for form, bound := range list {
 		o.setBound(form, bound)
 	}
 	o.sharpen()
 	return o, api.OK
+}
+
+// Origin has one state: that with all variables 0. There every sum is 0.
+func Origin() Octagon {
+	return Octagon{}
 }
 
 func isBound(n int) bool {

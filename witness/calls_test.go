@@ -72,6 +72,43 @@ func TestPostAndSafeEndAndErrorsStandAlone(t *testing.T) {
 	}
 }
 
+func TestCertificateCallsEndAndErrorsStandAlone(t *testing.T) {
+	certs := append(oddTexts(), bytesOf(1, 0), bytesOf(1, 1, 0), bytesOf(2, 1, 0, 1, 0), strings.Repeat("\x01", 1000), strings.Repeat("\x15", 1000), strings.Repeat("\xff", 1<<20))
+	for _, cert := range certs {
+		l, e := witness.Decode(cert)
+		if (e != api.OK) != (l == nil) || (e != api.OK && e != api.ErrCert) {
+			t.Errorf("P1: Decode(%.40q) = %d lists, %d", cert, len(l), e)
+		}
+		for _, src := range []string{"", "a=1;", "@*{}", "a=1", "a", strings.Repeat("?", 1<<20)} {
+			_, scanned, place := witness.Scan(src)
+			got, at := witness.Check(src, cert)
+			if scanned != api.OK && (got != scanned || at != place) {
+				t.Errorf("P1: Check(%.40q, %.40q) = %d, %d, but Scan %d, %d", src, cert, got, at, scanned, place)
+			}
+			if scanned == api.OK && e != api.OK && (got != api.ErrCert || at != 0) {
+				t.Errorf("P1: Check(%.40q, %.40q) = %d, %d", src, cert, got, at)
+			}
+		}
+	}
+	for _, src := range oddTexts() {
+		_, scanned, place := witness.Scan(src)
+		for _, cert := range []string{"", bytesOf(1, 0), bytesOf(2, 1, 0, 1, 0)} {
+			got, at := witness.Check(src, cert)
+			if (scanned == api.ErrText) != (got == api.ErrText) || (scanned == api.ErrText && at != place) {
+				t.Errorf("P1: Check(%.40q, %.40q) = %d, %d, but Scan %d, %d", src, cert, got, at, scanned, place)
+			}
+		}
+	}
+	for _, o := range oddOctagons {
+		for n := range 24 {
+			cert, e := witness.Encode(slices.Repeat([][]int{o}, n))
+			if (e != api.OK) != (cert == "") {
+				t.Errorf("P1: Encode of %d lists is %.40q, %d", n, cert, e)
+			}
+		}
+	}
+}
+
 func TestRunWritesIntoNothing(t *testing.T) {
 	room := []int{1, 5, 0, 1, 77, 78, 79, 80}
 	before := slices.Clone(room)
@@ -162,6 +199,56 @@ func TestOctagonCallsAnswerFreshLists(t *testing.T) {
 	wantClose(t, o, o)
 }
 
+func TestEncodeWritesIntoNothing(t *testing.T) {
+	first, firstRoom := withRoom(oct("a<=9 a+b<=3"))
+	second, secondRoom := withRoom(oct(""))
+	third, thirdRoom := withRoom(oct("a<=4001"))
+	rooms := [][]int{firstRoom, secondRoom, thirdRoom}
+	before := [][]int{slices.Clone(firstRoom), slices.Clone(secondRoom), slices.Clone(thirdRoom)}
+	lists := [][]int{first, nil, second, third, first, {}}
+	for n := range len(lists) + 1 {
+		witness.Encode(lists[:n])
+		if !sameLists(lists, [][]int{first, nil, second, third, first, {}}) || !sameLists(rooms, before) {
+			t.Errorf("P2: Encode changed what was handed in: %.400v, %.400v", lists, rooms)
+		}
+	}
+}
+
+// scribbleAll writes into lists, into the list of them, and into all spare room.
+func scribbleAll(lists [][]int) {
+	for _, list := range lists {
+		scribble(list)
+	}
+	spare := lists[:cap(lists)]
+	for i := range spare {
+		scribble(spare[i])
+		spare[i] = []int{-55}
+	}
+}
+
+func TestDecodeAnswersFreshLists(t *testing.T) {
+	want := claims("a<=3", "nil", "a<=3", "", "", "a<=3")
+	cert, _ := witness.Encode(want)
+	first, _ := witness.Decode(cert)
+	second, _ := witness.Decode(cert)
+	scribbleAll(first)
+	if !sameLists(second, want) {
+		t.Errorf("P2: two answers share a list: %s", tellAll(second))
+	}
+	// Nor do two lists of one answer.
+	for i := range second {
+		scribble(second[i])
+		if !sameLists(second[i+1:], want[i+1:]) {
+			t.Errorf("P2: the lists of an answer are shared: %s", tellAll(second))
+		}
+	}
+	scribbleAll(second)
+	wantDecode(t, cert, want)
+	// What was handed to Encode is the caller's still.
+	scribbleAll(want)
+	wantDecode(t, cert, claims("a<=3", "nil", "a<=3", "", "", "a<=3"))
+}
+
 func TestAnswersHangOnTheArgumentsAlone(t *testing.T) {
 	for i := 0; i < 3; i++ {
 		wantScan(t, "a=1;@*{}", 3, api.OK, 0)
@@ -179,5 +266,13 @@ func TestAnswersHangOnTheArgumentsAlone(t *testing.T) {
 		wantPost(t, "a=b;?a<=2{}{}", 1, 1, oct("b<=3"), oct("b<=3 -a<=-3 -a+b<=0"))
 		wantSafe(t, "a=b;!a<=2;", 0, oct("a<=2"), false)
 		wantSafe(t, "a=b;!a<=2;", 1, oct("a<=2"), true)
+		wantEncode(t, claims("nil", "a<=3"), bytesOf(2, 0, 1, 1, 0, 15, 163))
+		wantEncode(t, claims("nil"), bytesOf(1, 0))
+		wantDecode(t, bytesOf(2, 0, 1, 1, 0, 15, 163), claims("nil", "a<=3"))
+		wantNoCertificate(t, bytesOf(2, 0))
+		wantDecode(t, bytesOf(1, 1, 0), claims(""))
+		wantCheck(t, "a=1;!a<=1;", claims("", "a<=1", "a<=1"), api.OK, 0)
+		wantCheck(t, "a=1;!a<=1;", claims("", "a<=1", "a<=0"), api.ErrEdge, 1)
+		wantCheck(t, "a=2;!a<=1;", claims("", "a<=1", "a<=1"), api.ErrEdge, 0)
 	}
 }

@@ -3,6 +3,7 @@ package witness
 
 import (
 	"witness/api"
+	"witness/certificate"
 	"witness/effect"
 	"witness/octagon"
 	"witness/program"
@@ -110,13 +111,23 @@ func Safe(src string, p int, o []int) (bool, api.Errno) {
 }
 
 // Encode writes a certificate (P11).
-func Encode(l [][]int) (string, api.Errno) { return "", api.OK }
+func Encode(l [][]int) (string, api.Errno) {
+	return certificate.Encode(l)
+}
 
 // Decode reads a certificate (P11).
-func Decode(cert string) ([][]int, api.Errno) { return nil, api.OK }
+func Decode(cert string) ([][]int, api.Errno) {
+	return certificate.Decode(cert)
+}
 
 // Check tells whether a certificate shows that no run of a program goes wrong (P12).
-func Check(src string, cert string) (api.Errno, int) { return api.OK, 0 }
+func Check(src string, cert string) (api.Errno, int) {
+	p, err, at := program.Read(src)
+	if err != api.OK {
+		return err, at
+	}
+	return certificate.Check(p, cert)
+}
 
 // Analyze looks for a certificate (P13).
 func Analyze(src string) (string, api.Errno) { return "", api.OK }
