@@ -109,6 +109,19 @@ func TestCertificateCallsEndAndErrorsStandAlone(t *testing.T) {
 	}
 }
 
+func TestAnalyzeEndsAndErrorsStandAlone(t *testing.T) {
+	for _, src := range oddTexts() {
+		_, scanned, _ := witness.Scan(src)
+		cert, e := witness.Analyze(src)
+		if (scanned == api.ErrText) != (e == api.ErrText) || (e != api.OK) != (cert == "") {
+			t.Errorf("P1: Analyze(%.40q) = %.40q, %d, but Scan answers %d", src, cert, e, scanned)
+		}
+		if e != api.OK && e != api.ErrText && e != api.ErrUnknown {
+			t.Errorf("P13: Analyze(%.40q) answers %d", src, e)
+		}
+	}
+}
+
 func TestRunWritesIntoNothing(t *testing.T) {
 	room := []int{1, 5, 0, 1, 77, 78, 79, 80}
 	before := slices.Clone(room)
@@ -249,6 +262,18 @@ func TestDecodeAnswersFreshLists(t *testing.T) {
 	wantDecode(t, cert, claims("a<=3", "nil", "a<=3", "", "", "a<=3"))
 }
 
+func TestAnalyzeAnswersTheSameAgain(t *testing.T) {
+	first, _ := witness.Analyze("@a<=9{a=a+1;b=*;}")
+	other, _ := witness.Analyze("@b<=9{b=b+1;a=*;}")
+	again, _ := witness.Analyze("@a<=9{a=a+1;b=*;}")
+	if first != again || first == other {
+		t.Errorf("P2: Analyze gives %.40q, then %.40q; of another program %.40q", first, again, other)
+	}
+	lists, _ := witness.Decode(first)
+	scribbleAll(lists)
+	wantCheckBytes(t, "@a<=9{a=a+1;b=*;}", first, api.OK, 0)
+}
+
 func TestAnswersHangOnTheArgumentsAlone(t *testing.T) {
 	for i := 0; i < 3; i++ {
 		wantScan(t, "a=1;@*{}", 3, api.OK, 0)
@@ -274,5 +299,8 @@ func TestAnswersHangOnTheArgumentsAlone(t *testing.T) {
 		wantCheck(t, "a=1;!a<=1;", claims("", "a<=1", "a<=1"), api.OK, 0)
 		wantCheck(t, "a=1;!a<=1;", claims("", "a<=1", "a<=0"), api.ErrEdge, 1)
 		wantCheck(t, "a=2;!a<=1;", claims("", "a<=1", "a<=1"), api.ErrEdge, 0)
+		wantFound(t, "@a<=9{a=a+1;}!-a<=-10;")
+		wantNotFound(t, "@a<=9{a=a+1;}!-a<=-11;", api.ErrUnknown)
+		wantNotFound(t, "@a<=9{a=a+1;}!-a<=-10", api.ErrText)
 	}
 }

@@ -8,6 +8,7 @@ import (
 	"witness/octagon"
 	"witness/program"
 	"witness/runs"
+	"witness/search"
 )
 
 // Scan tells how many points a program has (P3).
@@ -130,4 +131,10 @@ func Check(src string, cert string) (api.Errno, int) {
 }
 
 // Analyze looks for a certificate (P13).
-func Analyze(src string) (string, api.Errno) { return "", api.OK }
+func Analyze(src string) (string, api.Errno) {
+	p, err, _ := program.Read(src)
+	if err != api.OK {
+		return "", err
+	}
+	return search.Find(p)
+}
